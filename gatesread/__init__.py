@@ -1,0 +1,1 @@
+"""Gatesread: from a netlist to masks, and back from the masks to the netlist."""
