@@ -2,6 +2,8 @@
 
 from itertools import product
 
+from gatesread.errors import InvalidValues
+
 
 def bit_lists(count):
     """All lists of count bits."""
@@ -19,6 +21,31 @@ def wrong_bits(count):
             bits[place] = value
             wrong.append(bits)
     return wrong
+
+
+def check_wrong_lists(test, functions, thing, input_count, state_count):
+    """Check that functions of a thing and its bits refuse wrong inputs and wrong states."""
+    inputs, states = [1] * input_count, [1] * state_count
+    pairs = [(wrong, states) for wrong in wrong_bits(input_count)]
+    pairs += [(inputs, wrong) for wrong in wrong_bits(state_count)]
+    for function in functions:
+        for pair in pairs:
+            with test.subTest(function=function.__name__, thing=thing, pair=pair):
+                with test.assertRaises(InvalidValues):
+                    function(thing, *pair)
+
+
+def check_lists_not_kept(test, function, thing, inputs, states):
+    """Check that a function of a thing and its bits neither changes nor keeps a list or dict."""
+    given = list(inputs), list(states)
+    first = function(thing, *given)
+    copy = first.copy()
+    test.assertEqual(given, (inputs, states))
+    for bits in given:
+        bits.clear()
+    test.assertEqual(first, copy)
+    first.clear()
+    test.assertEqual(function(thing, inputs, states), copy)
 
 
 def latch_count(netlist):

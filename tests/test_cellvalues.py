@@ -4,7 +4,6 @@ import unittest
 
 import samples
 from gatesread.cellvalues import cell_values, circuit_next, circuit_outputs
-from gatesread.errors import InvalidValues
 
 
 def each_kind_values(a, b, c):
@@ -71,44 +70,22 @@ class CellValuesTest(unittest.TestCase):
 
 
 class ListsTest(unittest.TestCase):
+    FUNCTIONS = (cell_values, circuit_outputs, circuit_next)
+
     def test_wrong_lists(self):
-        for function in (cell_values, circuit_outputs, circuit_next):
-            for wrong in samples.wrong_bits(2):
-                with self.subTest(function=function.__name__, wrong=wrong):
-                    with self.assertRaises(InvalidValues):
-                        function(samples.LOOSE, wrong, [0, 1])
-                    with self.assertRaises(InvalidValues):
-                        function(samples.LOOSE, [0, 1], wrong)
+        samples.check_wrong_lists(self, self.FUNCTIONS, samples.LOOSE, 2, 2)
+        samples.check_wrong_lists(self, self.FUNCTIONS, samples.LATCHES, 1, 4)
 
     def test_lists_for_nothing(self):
-        no_latch = (1, (("not", (0,), 1),), (1,), ())
-        no_input = (0, (("latch", (0,), 0),), (0,), (0,))
-        for function in (cell_values, circuit_outputs, circuit_next):
-            for wrong in ([0], [1, 1]):
-                with self.subTest(function=function.__name__, wrong=wrong):
-                    with self.assertRaises(InvalidValues):
-                        function(no_latch, [0], wrong)
-                    with self.assertRaises(InvalidValues):
-                        function(no_input, wrong, [0])
-
-    def test_one_state_for_each_latch_cell(self):
-        # The netlist may have had more latches than the circuit holds.
-        circuit = (0, (("latch", (0,), 0),), (0,), (3,))
-        for function in (cell_values, circuit_outputs, circuit_next):
-            with self.subTest(function.__name__), self.assertRaises(InvalidValues):
-                function(circuit, [], [0, 0, 0, 0])
+        samples.check_wrong_lists(self, self.FUNCTIONS, (1, (("not", (0,), 1),), (1,), ()), 1, 0)
+        samples.check_wrong_lists(self, self.FUNCTIONS, (2, (), (1,), ()), 2, 0)
+        # The netlist may have more latches than the circuit holds.
+        one_latch = (0, (("latch", (0,), 0),), (0,), (3,))
+        samples.check_wrong_lists(self, self.FUNCTIONS, one_latch, 0, 1)
 
     def test_arguments_and_results_are_not_kept(self):
-        for function in (cell_values, circuit_outputs, circuit_next):
-            inputs, states = [1, 0], [1, 0]
-            first = function(samples.LOOSE, inputs, states)
-            copy = list(first)
-            self.assertEqual((inputs, states), ([1, 0], [1, 0]))
-            inputs[1] = 1
-            states.clear()
-            self.assertEqual(first, copy)
-            first.append(0)
-            self.assertEqual(function(samples.LOOSE, [1, 0], [1, 0]), copy)
+        for function in self.FUNCTIONS:
+            samples.check_lists_not_kept(self, function, samples.LOOSE, [1, 0], [1, 0])
 
 
 if __name__ == "__main__":

@@ -114,43 +114,27 @@ class NetValuesTest(unittest.TestCase):
 
 
 class ListsTest(unittest.TestCase):
+    FUNCTIONS = (net_values, output_values, next_states)
+
     def test_wrong_lists(self):
-        for function in (net_values, output_values, next_states):
-            for wrong in samples.wrong_bits(2):
-                with self.subTest(function=function.__name__, wrong=wrong):
-                    with self.assertRaises(InvalidValues):
-                        function(MIXED, wrong, [0, 1])
-                    with self.assertRaises(InvalidValues):
-                        function(MIXED, [0, 1], wrong)
+        samples.check_wrong_lists(self, self.FUNCTIONS, MIXED, 2, 2)
+        samples.check_wrong_lists(self, self.FUNCTIONS, samples.COUNTER, 1, 2)
 
     def test_lists_for_nothing(self):
         no_latch = (("a",), ("a",), ())
         no_input = ((), ("l",), (("l", "latch", ("l",)),))
-        for function in (net_values, output_values, next_states):
-            for wrong in ([0], [1, 1]):
-                with self.subTest(function=function.__name__, wrong=wrong):
-                    with self.assertRaises(InvalidValues):
-                        function(no_latch, [0], wrong)
-                    with self.assertRaises(InvalidValues):
-                        function(no_input, wrong, [0])
+        samples.check_wrong_lists(self, self.FUNCTIONS, no_latch, 1, 0)
+        samples.check_wrong_lists(self, self.FUNCTIONS, no_input, 0, 1)
 
     def test_inputs_for_states(self):
         netlist = (("a", "b"), ("l",), (("l", "latch", ("a",)),))
-        for function in (net_values, output_values, next_states):
+        for function in self.FUNCTIONS:
             with self.subTest(function.__name__), self.assertRaises(InvalidValues):
                 function(netlist, [0], [0, 1])
 
     def test_arguments_and_results_are_not_kept(self):
-        for function in (net_values, output_values, next_states):
-            inputs, states = [1, 0], [1, 1]
-            first = function(MIXED, inputs, states)
-            self.assertEqual((inputs, states), ([1, 0], [1, 1]))
-            copy = type(first)(first)
-            inputs[0] = 0
-            states.append(1)
-            self.assertEqual(first, copy)
-            first.clear()
-            self.assertEqual(function(MIXED, [1, 0], [1, 1]), copy)
+        for function in self.FUNCTIONS:
+            samples.check_lists_not_kept(self, function, MIXED, [1, 0], [1, 1])
 
 
 if __name__ == "__main__":

@@ -19,7 +19,6 @@ class NodeValuesTest(unittest.TestCase):
 
     def test_each_kind(self):
         table = NodeTable(2, 1)
-        expected = []
         self.assertEqual(table.find_not(4), 5)
         self.assertEqual(table.find_and([2, 3]), 6)
         self.assertEqual(table.find_and([2, 3, 5]), 7)
@@ -42,33 +41,17 @@ class NodeValuesTest(unittest.TestCase):
         self.assertEqual(node_values(table, [1], []), [0, 1, 1, 0])
 
     def test_wrong_lists(self):
-        for wrong in samples.wrong_bits(2):
-            with self.subTest(wrong):
-                with self.assertRaises(InvalidValues):
-                    node_values(NodeTable(2, 2), wrong, [0, 1])
-                with self.assertRaises(InvalidValues):
-                    node_values(NodeTable(2, 2), [0, 1], wrong)
+        for inputs, latches in ((2, 2), (6, 4), (2, 1), (1, 2), (0, 1), (1, 0), (0, 0)):
+            table = NodeTable(inputs, latches)
+            samples.check_wrong_lists(self, [node_values], table, inputs, latches)
 
-    def test_lists_for_nothing(self):
-        for wrong in ([0], [1, 1]):
-            with self.assertRaises(InvalidValues):
-                node_values(NodeTable(0, 1), wrong, [0])
-            with self.assertRaises(InvalidValues):
-                node_values(NodeTable(1, 0), [0], wrong)
-            with self.assertRaises(InvalidValues):
-                node_values(NodeTable(2, 1), [0], [0, 0])
+    def test_inputs_for_states(self):
+        with self.assertRaises(InvalidValues):
+            node_values(NodeTable(2, 1), [0], [0, 0])
 
     def test_arguments_and_results_are_not_kept(self):
         table = build_nodes(samples.COUNTER)[0]
-        inputs, states = [1], [1, 0]
-        first = node_values(table, inputs, states)
-        copy = list(first)
-        self.assertEqual((inputs, states), ([1], [1, 0]))
-        inputs.clear()
-        states[0] = 0
-        self.assertEqual(first, copy)
-        first.clear()
-        self.assertEqual(node_values(table, [1], [1, 0]), copy)
+        samples.check_lists_not_kept(self, node_values, table, [1], [1, 0])
 
 
 if __name__ == "__main__":
