@@ -2,7 +2,9 @@
 
 from itertools import product
 
-from gatesread.errors import InvalidValues
+from gatesread.errors import InvalidPlacement, InvalidValues
+
+INPUT_COUNTS = {"not": 1, "nand2": 2, "nand3": 3, "nor2": 2, "nor3": 3, "latch": 1, "tie0": 0, "tie1": 0}
 
 
 def bit_lists(count):
@@ -46,6 +48,109 @@ def check_lists_not_kept(test, function, thing, inputs, states):
     test.assertEqual(first, copy)
     first.clear()
     test.assertEqual(function(thing, inputs, states), copy)
+
+
+class Numbers:
+    """Numbers that look arbitrary and are the same in each run."""
+
+    def __init__(self, seed):
+        self.last = seed
+
+    def below(self, bound):
+        self.last = (self.last * 1103515245 + 12345) % 2 ** 31
+        return (self.last >> 12) % bound
+
+
+def arbitrary_circuit(seed, input_count, cell_count, latch_count=0):
+    """A circuit with cells of all kinds, also equal ones and some that are not needed."""
+    numbers = Numbers(seed)
+    kinds = ["latch"] * latch_count
+    while len(kinds) < cell_count:
+        logic = [kind for kind in INPUT_COUNTS if kind != "latch"]
+        kinds.insert(numbers.below(len(kinds) + 1), logic[numbers.below(len(logic))])
+    total = input_count + cell_count
+    cells = []
+    for k, kind in enumerate(kinds):
+        output = input_count + k
+        nets = list(range(total if kind == "latch" else output))
+        if len(nets) < INPUT_COUNTS[kind]:
+            kind = "tie1"
+        count = INPUT_COUNTS[kind]
+        sources = tuple(nets.pop(numbers.below(len(nets))) for _ in range(count))
+        cells.append((kind, sources, output))
+    outputs = tuple(numbers.below(total) for _ in range(1 + numbers.below(6)))
+    return input_count, tuple(cells), outputs, tuple(range(latch_count))
+
+
+def arbitrary_placement(seed, circuit, row_count):
+    """A placement of a circuit, often with empty rows if the circuit has few cells."""
+    numbers = Numbers(seed)
+    placement = [[] for _ in range(row_count)]
+    for cell in range(len(circuit[1])):
+        row = placement[numbers.below(row_count)]
+        row.insert(numbers.below(len(row) + 1), cell)
+    return placement
+
+
+def some_placements():
+    """Pairs of a circuit and a placement of it: the samples below, and arbitrary ones."""
+    circuits = list(PLACED_CIRCUITS)
+    for seed in range(12):
+        circuits.append(arbitrary_circuit(seed, seed % 4 + 1, seed, min(seed // 2, 4)))
+    pairs = []
+    for seed, circuit in enumerate(circuits):
+        for row_count in range(1, 7):
+            pairs.append((circuit, arbitrary_placement(seed, circuit, row_count)))
+    return pairs
+
+
+def placed_pins(circuit, placement):
+    """A dict from each net to the places (row, column) of its pins, without feeds."""
+    pins = {net: [] for net in range(circuit[0] + len(circuit[1]))}
+    for i in range(circuit[0]):
+        pins[i].append((-1, 2 * i + 1))
+    for row, cells in enumerate(placement):
+        column = (row + 1) % 2
+        for cell in cells:
+            kind, sources, output = circuit[1][cell]
+            for i, net in enumerate(sources + (output,)):
+                pins[net].append((row, column + 2 * i + 1))
+            column += 2 * INPUT_COUNTS[kind] + 2
+    for i, net in enumerate(circuit[2]):
+        pins[net].append((len(placement), (len(placement) + 1) % 2 + 2 * i + 1))
+    return pins
+
+
+def wrong_placements(count):
+    """Lists of rows that are no placement of a circuit with count cells, at least two."""
+    cells = list(range(count))
+    return [
+        [],
+        [cells] + [[]] * 6,
+        [[]] * 7,
+        [[]],
+        [cells[1:]],
+        [cells[:-1], []],
+        [cells + [0]],
+        [cells, cells[-1:]],
+        [cells, cells],
+        [cells + [-1]],
+        [[-1] + cells[1:]],
+        [cells[:-1], [-1]],
+        [cells, [count]],
+        [cells[:-1] + [count]],
+        [cells[1:] + cells[1:2]],
+    ]
+
+
+def check_wrong_placements(test, function, circuit):
+    """Check that a function of a placement refuses what is no placement of a circuit."""
+    for wrong in wrong_placements(len(circuit[1])):
+        with test.subTest(circuit=circuit, wrong=wrong):
+            copy = [list(row) for row in wrong]
+            with test.assertRaises(InvalidPlacement):
+                function(wrong)
+            test.assertEqual(wrong, copy)
 
 
 def latch_count(netlist):
@@ -140,3 +245,16 @@ LOOSE = (
     (6, 1, 11),
     (1, 2),
 )
+
+# Nothing but pads.
+NO_CELLS = (2, (), (1, 0, 1), ())
+
+# No input, and a latch that holds its own state.
+NO_INPUTS = (
+    0,
+    (("latch", (0,), 0), ("tie1", (), 1), ("nor2", (1, 0), 2)),
+    (2, 2, 0),
+    (1,),
+)
+
+PLACED_CIRCUITS = (EACH_KIND, LATCHES, LOOSE, NO_CELLS, NO_INPUTS)

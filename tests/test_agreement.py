@@ -17,20 +17,9 @@ LOGIC_KINDS = ("not", "and", "or", "nand", "nor", "xor", "mux", "zero", "one")
 NAMES = ("a", "b", "l", "k")
 
 
-class Numbers:
-    """Numbers that look arbitrary and are the same in each run."""
-
-    def __init__(self, seed):
-        self.last = seed
-
-    def below(self, bound):
-        self.last = (self.last * 1103515245 + 12345) % 2 ** 31
-        return (self.last >> 12) % bound
-
-
 def arbitrary_netlist(seed):
     """A netlist with 2 inputs, 2 latches and 8 other gates, some ahead of their inputs."""
-    numbers = Numbers(seed)
+    numbers = samples.Numbers(seed)
     known = list(NAMES)
     gates = []
     for k in range(8):

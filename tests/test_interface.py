@@ -1,0 +1,80 @@
+"""The names and arguments of the interface, each defined in the file that it stands under."""
+
+import importlib
+import inspect
+import unittest
+
+FUNCTIONS = {
+    "tokens": ["split_tokens(text)", "is_good(token)"],
+    "reader": ["find_fault(text)", "read_netlist(text)"],
+    "writer": ["write_netlist(netlist)"],
+    "gates": [
+        "input_counts(kind)",
+        "gate_value(kind, values)",
+        "net_values(netlist, inputs, states)",
+        "output_values(netlist, inputs, states)",
+        "next_states(netlist, inputs, states)",
+    ],
+    "building": ["build_nodes(netlist)", "kept_nodes(netlist)"],
+    "nodevalues": ["node_values(table, inputs, states)"],
+    "cellkinds": ["cell_inputs(kind)", "cell_value(kind, values)"],
+    "mapping": ["map_cells(netlist)"],
+    "cellvalues": [
+        "cell_values(circuit, inputs, states)",
+        "circuit_outputs(circuit, inputs, states)",
+        "circuit_next(circuit, inputs, states)",
+    ],
+    "listing": ["list_cells(circuit)"],
+    "flaws": ["case_bits(circuit, case)", "shows(circuit, flaw, case)"],
+    "flawtests": ["first_case(circuit, flaw)", "hidden_flaws(circuit)", "make_tests(circuit)"],
+    "placing": [
+        "cell_width(kind)",
+        "check_placement(circuit, placement)",
+        "first_placement(circuit, row_count)",
+    ],
+    "wirelength": ["net_wire(circuit, placement, net)", "placement_wire(circuit, placement)"],
+    "improving": ["exchange(placement, one, other)", "improve(circuit, placement)"],
+    "arranging": ["arrange(circuit, placement)", "arranged_pins(circuit, arrangement)"],
+}
+
+METHODS = {
+    ("clocked", "Clocked(netlist)"): ["states(self)", "load(self, states)", "clock(self, inputs)"],
+    ("nodetable", "NodeTable(input_count, latch_count)"): [
+        "size(self)",
+        "node(self, number)",
+        "input_node(self, i)",
+        "latch_node(self, i)",
+        "find_not(self, x)",
+        "find_and(self, nodes)",
+        "find_or(self, nodes)",
+        "find_xor(self, x, y)",
+        "find_mux(self, s, a, b)",
+    ],
+}
+
+
+class InterfaceTest(unittest.TestCase):
+    def check(self, module, holder, entry):
+        """Check that a holder defines what an entry tells, in the file of a module."""
+        with self.subTest(module=module, entry=entry):
+            name = entry.split("(")[0]
+            self.assertIn(name, vars(holder))
+            thing = vars(holder)[name]
+            self.assertEqual(thing.__module__, f"gatesread.{module}")
+            self.assertEqual(name + str(inspect.signature(thing)), entry)
+
+    def test_functions(self):
+        for module, entries in FUNCTIONS.items():
+            for entry in entries:
+                self.check(module, importlib.import_module(f"gatesread.{module}"), entry)
+
+    def test_classes(self):
+        for (module, made), entries in METHODS.items():
+            holder = importlib.import_module(f"gatesread.{module}")
+            self.check(module, holder, made)
+            for entry in entries:
+                self.check(module, vars(holder)[made.split("(")[0]], entry)
+
+
+if __name__ == "__main__":
+    unittest.main()
