@@ -258,3 +258,12 @@ NO_INPUTS = (
 )
 
 PLACED_CIRCUITS = (EACH_KIND, LATCHES, LOOSE, NO_CELLS, NO_INPUTS)
+
+
+def rectangles_of(text):
+    """The rectangles that are told by lines of layer, left, bottom, right and top."""
+    rectangles = []
+    for line in text.strip().split("\n"):
+        layer, *sides = line.split()
+        rectangles.append((layer, *[int(side) for side in sides]))
+    return rectangles

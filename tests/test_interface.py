@@ -35,6 +35,18 @@ FUNCTIONS = {
     "wirelength": ["net_wire(circuit, placement, net)", "placement_wire(circuit, placement)"],
     "improving": ["exchange(placement, one, other)", "improve(circuit, placement)"],
     "arranging": ["arrange(circuit, placement)", "arranged_pins(circuit, arrangement)"],
+    "channels": ["route(circuit, arrangement)", "track_count(channel)", "fullness(channel)"],
+    "lengths": ["net_length(channels, net)"],
+    "arrivals": [
+        "net_load(circuit, channels, net)",
+        "net_arrivals(circuit, channels)",
+        "longest_time(circuit, channels)",
+        "longest_path(circuit, channels)",
+    ],
+    "cellshapes": ["cell_rectangles(kind, column, bottom)", "feed_rectangles(column, bottom)"],
+    "wireshapes": ["channel_rectangles(channel, bottom)"],
+    "masks": ["draw_masks(circuit, arrangement, channels)"],
+    "sheet": ["write_sheet(rectangles, labels)", "read_sheet(text)"],
 }
 
 METHODS = {
