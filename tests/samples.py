@@ -3,8 +3,10 @@
 from itertools import product
 
 from gatesread.errors import InvalidPlacement, InvalidValues
+from gatesread.gates import input_counts
 
 INPUT_COUNTS = {"not": 1, "nand2": 2, "nand3": 3, "nor2": 2, "nor3": 3, "latch": 1, "tie0": 0, "tie1": 0}
+LOGIC_KINDS = ("not", "and", "or", "nand", "nor", "xor", "mux", "zero", "one")
 
 
 def bit_lists(count):
@@ -151,6 +153,32 @@ def check_wrong_placements(test, function, circuit):
             with test.assertRaises(InvalidPlacement):
                 function(wrong)
             test.assertEqual(wrong, copy)
+
+
+def arbitrary_netlist(seed):
+    """A netlist with 2 inputs, 2 latches and 8 other gates, some ahead of their inputs."""
+    numbers = Numbers(seed)
+    known = ["a", "b", "l", "k"]
+    gates = []
+    for k in range(8):
+        kind = LOGIC_KINDS[numbers.below(len(LOGIC_KINDS))]
+        least, greatest = input_counts(kind)
+        count = least + numbers.below(greatest - least + 1)
+        sources = tuple(known[numbers.below(len(known))] for _ in range(count))
+        gates.insert(numbers.below(len(gates) + 1), (f"g{k}", kind, sources))
+        known.append(f"g{k}")
+    for name in ("l", "k"):
+        source = known[numbers.below(len(known))]
+        gates.insert(numbers.below(len(gates) + 1), (name, "latch", (source,)))
+    outputs = tuple(known[numbers.below(len(known))] for _ in range(1 + numbers.below(3)))
+    return ("a", "b"), outputs, tuple(gates)
+
+
+def too_large_netlist():
+    """A netlist with two inputs that needs more than 40 cells: 11 xors of 4 cells each."""
+    names = ["a", "b"] + [f"x{k}" for k in range(11)]
+    gates = [(names[k], "xor", (names[k - 2], names[k - 1])) for k in range(2, len(names))]
+    return ("a", "b"), (names[-1],), tuple(gates)
 
 
 def latch_count(netlist):

@@ -13,32 +13,10 @@ from gatesread.nodevalues import node_values
 from gatesread.reader import find_fault, read_netlist
 from gatesread.writer import write_netlist
 
-LOGIC_KINDS = ("not", "and", "or", "nand", "nor", "xor", "mux", "zero", "one")
-NAMES = ("a", "b", "l", "k")
-
-
-def arbitrary_netlist(seed):
-    """A netlist with 2 inputs, 2 latches and 8 other gates, some ahead of their inputs."""
-    numbers = samples.Numbers(seed)
-    known = list(NAMES)
-    gates = []
-    for k in range(8):
-        kind = LOGIC_KINDS[numbers.below(len(LOGIC_KINDS))]
-        least, greatest = input_counts(kind)
-        count = least + numbers.below(greatest - least + 1)
-        sources = tuple(known[numbers.below(len(known))] for _ in range(count))
-        gates.insert(numbers.below(len(gates) + 1), (f"g{k}", kind, sources))
-        known.append(f"g{k}")
-    for name in ("l", "k"):
-        source = known[numbers.below(len(known))]
-        gates.insert(numbers.below(len(gates) + 1), (name, "latch", (source,)))
-    outputs = tuple(known[numbers.below(len(known))] for _ in range(1 + numbers.below(3)))
-    return ("a", "b"), outputs, tuple(gates)
-
 
 def pairs_of_gates():
     """All netlists of two gates, the second over the first and the two inputs."""
-    for first, second in product(LOGIC_KINDS, repeat=2):
+    for first, second in product(samples.LOGIC_KINDS, repeat=2):
         sources = ("a", "b", "a")[:input_counts(first)[1]]
         for others in product(("a", "b", "x"), repeat=input_counts(second)[1]):
             gates = (("y", second, others), ("x", first, sources))
@@ -99,11 +77,11 @@ class AgreementTest(unittest.TestCase):
 
     def test_arbitrary_netlists(self):
         for seed in range(300):
-            self.check(arbitrary_netlist(seed))
+            self.check(samples.arbitrary_netlist(seed))
 
     def test_kept_latches_are_held(self):
         for seed in range(300):
-            netlist = arbitrary_netlist(seed)
+            netlist = samples.arbitrary_netlist(seed)
             kept = [number - 4 for number in kept_nodes(netlist) if number in (4, 5)]
             self.assertEqual(list(map_cells(netlist)[3]), kept)
 

@@ -47,6 +47,10 @@ FUNCTIONS = {
     "wireshapes": ["channel_rectangles(channel, bottom)"],
     "masks": ["draw_masks(circuit, arrangement, channels)"],
     "sheet": ["write_sheet(rectangles, labels)", "read_sheet(text)"],
+    "rectangles": ["touches(a, b)", "distance(a, b)", "surrounds(outer, inner)"],
+    "shapes": ["shape_numbers(rectangles)"],
+    "checking": ["find_breaches(rectangles)", "is_clean(rectangles)"],
+    "levels": ["switch_state(kind, level)", "settle(node_count, transistors, fixed)"],
 }
 
 METHODS = {
@@ -61,6 +65,24 @@ METHODS = {
         "find_or(self, nodes)",
         "find_xor(self, x, y)",
         "find_mux(self, s, a, b)",
+    ],
+    ("readback", "Readback(rectangles, labels)"): [
+        "pieces(self)",
+        "piece_nodes(self)",
+        "node_count(self)",
+        "transistors(self)",
+        "boxes(self)",
+        "ports(self)",
+        "node_at(self, layer, x, y)",
+    ],
+    ("machine", "Machine(rectangles, labels)"): [
+        "input_numbers(self)",
+        "output_numbers(self)",
+        "latch_numbers(self)",
+        "states(self)",
+        "load(self, states)",
+        "levels(self, inputs)",
+        "clock(self, inputs)",
     ],
 }
 
