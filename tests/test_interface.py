@@ -51,6 +51,21 @@ FUNCTIONS = {
     "shapes": ["shape_numbers(rectangles)"],
     "checking": ["find_breaches(rectangles)", "is_clean(rectangles)"],
     "levels": ["switch_state(kind, level)", "settle(node_count, transistors, fixed)"],
+    "comparing": [
+        "pin_places(circuit, arrangement, channels)",
+        "open_nets(readback, places)",
+        "short_nets(readback, places)",
+        "agrees(netlist, readback, inputs, states)",
+    ],
+    "lifting": ["lift(readback)"],
+    "chip": [
+        "compile_chip(text, row_count)",
+        "compile_placed(text, placement)",
+        "machine_of(sheet)",
+    ],
+    "waves": ["net_waves(circuit, channels, before, inputs, states)", "value_at(wave, time)"],
+    "equivalence": ["net_functions(netlist)", "find_difference(first, second)"],
+    "flawcases": ["least_case(circuit, flaw)"],
 }
 
 METHODS = {
@@ -83,6 +98,18 @@ METHODS = {
         "load(self, states)",
         "levels(self, inputs)",
         "clock(self, inputs)",
+    ],
+    ("diagrams", "Diagrams(count)"): [
+        "size(self)",
+        "node(self, number)",
+        "variable(self, i)",
+        "choose(self, f, g, h)",
+        "negate(self, f)",
+        "both(self, f, g)",
+        "either(self, f, g)",
+        "differ(self, f, g)",
+        "value(self, f, bits)",
+        "first_case(self, f)",
     ],
 }
 
